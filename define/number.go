@@ -5,6 +5,7 @@ import (
 
 	"serinette/api"
 	"serinette/block"
+	"serinette/ops"
 	"serinette/quant"
 	"serinette/ratio"
 )
@@ -86,68 +87,13 @@ func sums(l []api.Q, n int) []api.Q {
 
 // outOf returns the out of a block without Kids.
 func outOf(b api.Block, ins []api.Q) api.Q {
-	switch len(ins) {
-	case 0:
-		return b.Nums[0]
-	case 1:
-		return ofOne(b, ins[0])
-	case 2:
-		return ofTwo(b.Op, ins[0], ins[1])
-	}
-	return picked(ins[0], ins[1], ins[2])
-}
-
-// ofOne returns the out of a block with one in.
-func ofOne(b api.Block, q api.Q) api.Q {
 	switch b.Op {
-	case "neg":
-		return ratio.Neg(q)
-	case "abs":
-		return ratio.Abs(q)
-	case "floor":
-		return ratio.Floor(q)
-	case "round":
-		return ratio.Round(q)
-	case "frac":
-		return ratio.Frac(q)
-	case "not":
-		return ratio.Test("eq", q, api.Q{D: 1})
+	case "num":
+		return b.Nums[0]
+	case "wire":
+		return ins[0]
 	case "fit":
-		return quant.Fit(b.Format, q)
+		return quant.Fit(b.Format, ins[0])
 	}
-	return q
-}
-
-// ofTwo returns the out of an op with two ins.
-func ofTwo(op string, a, b api.Q) api.Q {
-	switch op {
-	case "add":
-		return ratio.Add(a, b)
-	case "sub":
-		return ratio.Sub(a, b)
-	case "mul":
-		return ratio.Mul(a, b)
-	case "div":
-		return ratio.Div(a, b)
-	case "mod":
-		return ratio.Mod(a, b)
-	case "min":
-		return ratio.Min(a, b)
-	case "max":
-		return ratio.Max(a, b)
-	case "lt", "le", "eq", "ne":
-		return ratio.Test(op, a, b)
-	}
-	return ratio.Bits(op, a, b)
-}
-
-// picked returns one of two: the first, if s is 0, else the second.
-func picked(s, a, b api.Q) api.Q {
-	switch {
-	case !ratio.Is(s):
-		return api.Q{}
-	case s.N == 0:
-		return a
-	}
-	return b
+	return ops.Apply(b.Op, ins)
 }
